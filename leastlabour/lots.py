@@ -1,0 +1,20 @@
+"""Going through lots: fewer things first, then ascending."""
+
+
+def all_lots(things):
+    """All ascending tuples of some of the ascending things, fewer first, then ascending."""
+    lots, longest = [()], [()]
+    for _ in things:
+        longest = [lot + (thing,) for lot in longest for thing in things if not lot or thing > lot[-1]]
+        lots = lots + longest
+    return tuple(lots)
+
+
+def holds_all(lot, inner):
+    """Whether all of the inner lot lies within the lot."""
+    return all([thing in lot for thing in inner])
+
+
+def holds_one_of(lot, lots):
+    """Whether one of the lots lies within the lot."""
+    return any([holds_all(lot, inner) for inner in lots])
