@@ -67,8 +67,8 @@ def solve(rows, totals):
     _check_system(rows, totals)
     lines = [whole_row(list(row) + [total])[0] for row, total in zip(rows, totals)]
     scale = 1
-    for at in range(len(lines)):
-        found = [number for number in range(at, len(lines)) if lines[number][at] != 0]
+    for at in range(len(rows)):
+        found = [number for number in range(at, len(rows)) if lines[number][at] != 0]
         if not found:
             return Singular(_way_of(lines, at, scale))
         lines[at], lines[found[0]] = lines[found[0]], lines[at]

@@ -92,9 +92,7 @@ def works_of(text):
     if goods is None:
         raise BadText(0, "goods")
     recipes = []
-    for number, row in enumerate(rows):
-        if number == 0:
-            continue
+    for number, row in enumerate(rows[1:], start=1):
         recipe = _read_recipe(goods, row)
         if recipe is None:
             raise BadText(number, "recipe")

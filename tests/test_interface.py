@@ -20,19 +20,43 @@ FUNCTIONS = {
     "tasks": ["find_from(rows, least)", "least_cost(rows, least, costs)", "most_gain(rows, most, gains)",
               "follows_from(rows, least, wanted, total)", "needed_rows(rows, least)",
               "barred_lots(rows, least, *, kept=0)"],
+    "judges": ["solved_fault(rows, totals, told)", "singular_fault(rows, told)", "found_fault(rows, least, told)",
+               "barred_fault(rows, least, told)", "least_fault(rows, least, costs, told)",
+               "greatest_fault(rows, most, gains, told)", "endless_fault(rows, least, costs, told)",
+               "follows_fault(rows, least, wanted, total, told)", "fails_fault(rows, least, wanted, total, told)"],
+    "making": ["can_be_made(works, *, given=(), using=None)", "made_amounts(works, lot, *, given=(), using=None)",
+               "made_fault(works, lot, amounts, *, given=(), using=None)", "making_recipes(works)"],
+    "selfeating": ["self_eating(works, *, given=(), using=None)",
+                   "self_eating_fault(works, told, *, given=(), using=None)", "first_loss(works, weights)",
+                   "is_self_eating_lot(works, lot)", "self_eating_lots(works)", "least_self_eating_lots(works)"],
+    "gifts": ["frees(works, gifts, lot)", "barring_lot(works, gifts, lot)", "least_gifts(works, lot)"],
+    "ownrows": ["manners_of(works)", "check_whole(works, manner)", "makes_all(works, manner)",
+                "manner_amounts(works, manner, wish)"],
+    "beginnings": ["closure(works, pinch)", "steps_from(works, pinch)", "usable_recipes(works, pinch)",
+                   "grown_from(works, pinch)", "begins(works, pinch, wish)", "holding_weights(works, pinch)",
+                   "least_pinches(works)", "most_ever(works, stock, good)"],
+    "growing": ["play_plan(works, stock, plan)", "growth_plan(works, stock, wish)",
+                "plan_fault(works, stock, wish, plan)"],
+    "prices": ["check_prices(works, prices)", "gaps_of(works, prices)", "undercuts(works, prices)",
+               "is_let(works, prices)", "greatest_prices(works)", "prices_fault(works, prices)",
+               "worth_of(works, prices, wish)", "tight_recipes(works)"],
 }
 CLASSES = {
     "works": ["Recipe(good, labour, eats)", "Works(goods, recipes)"],
     "systems": ["Solved(numbers)", "Singular(way)"],
     "tasks": ["Found(numbers)", "Barred(weights)", "Least(value, numbers, weights)",
               "Greatest(value, numbers, weights)", "Endless(numbers, way)", "Follows(weights)", "Fails(numbers)"],
+    "selfeating": ["SelfEating(lot, weights)"],
+    "ownrows": ["MannerRow(prices)"],
+    "beginnings": ["Ceiling(value, worth, amounts)"],
+    "growing": ["Plan(starts, turns)", "Stopped(where, index)", "Held(weights)"],
 }
 METHODS = {
     ("works", "Works"): ["recipes_of(self, good)", "with_recipe(self, recipe)", "without_recipe(self, number)",
                          "with_labour(self, number, labour)", "renamed(self, order)", "scaled_good(self, good, size)",
                          "times_labour(self, size)"],
 }
-GENERATORS = {("tasks", "barred_lots")}
+GENERATORS = {("tasks", "barred_lots"), ("selfeating", "self_eating_lots"), ("ownrows", "manners_of")}
 
 
 def thing_of(module, name):
