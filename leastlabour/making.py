@@ -49,13 +49,13 @@ def made_amounts(works, lot, *, given=(), using=None):
     """Amounts that leave a piece of each good of the lot and no good outside `given` short."""
     asked = check_lot(works.goods, lot)
     goods, numbers = asked_of(works, given, using)
-    answers = piece_answers(works, goods, numbers)
-    made = [good for good, answer in zip(goods, answers) if isinstance(answer, Found)]
+    answers = dict(zip(goods, piece_answers(works, goods, numbers)))
     total = [ZERO] * len(numbers)
     for good in asked:
-        if good not in made:
+        answer = answers.get(good)
+        if not isinstance(answer, Found):
             raise NotMade(good)
-        total = plus_rows(total, answers[goods.index(good)].numbers)
+        total = plus_rows(total, answer.numbers)
     amounts = [ZERO] * len(works)
     for number, amount in zip(numbers, total):
         amounts[number] = amount
