@@ -14,9 +14,7 @@ def is_above_zero(thing):
 
 def is_order(thing, goods):
     """Whether this is a sequence of 0 to goods - 1, each once."""
-    if not is_sequence(thing) or len(thing) != goods:
-        return False
-    if not all([is_whole(place, 0, goods - 1) for place in thing]):
+    if not is_sequence(thing) or not all([is_whole(place) for place in thing]):
         return False
     return sorted(thing) == list(range(goods))
 

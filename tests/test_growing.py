@@ -237,7 +237,10 @@ class TestJudge(unittest.TestCase):
                 other[at] = [3]
                 self.assertFalse(told == kind(*other))
             self.assertTrue(told == kind(*things))
+            self.assertFalse(told == tuple(things))
         self.assertFalse(Plan(1, 2) == Stopped(1, 2))
+        self.assertFalse(Stopped(1, 2) == Plan(1, 2))
+        self.assertFalse(Held(1) == Plan(1, 2))
 
     def test_passed_lists_stay(self):
         stock, wish, starts, turns = [ONE, ZERO, ZERO], [ONE, ZERO, ZERO], [[2, HALF]], [[[ZERO] * 3, 2]]

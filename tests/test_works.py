@@ -117,6 +117,7 @@ class TestMethods(unittest.TestCase):
     def test_with_labour(self):
         changed = self.works.with_labour(1, (7, 2))
         self.assertEqual(changed, Works(3, (EXAMPLE[0], Recipe(0, (7, 2), EXAMPLE[1].eats), EXAMPLE[2])))
+        self.assertEqual([self.works.with_labour(number, HALF).recipes[number].labour for number in range(3)], [HALF] * 3)
         for thing in NO_WHOLES + (3, -1):
             fault(self, NoRecipe, {"number": thing}, self.works.with_labour, thing, None)
         for thing in NO_RATIOS + (ZERO, (-1, 2)):
