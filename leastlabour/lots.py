@@ -18,3 +18,12 @@ def holds_all(lot, inner):
 def holds_one_of(lot, lots):
     """Whether one of the lots lies within the lot."""
     return any([holds_all(lot, inner) for inner in lots])
+
+
+def one_of_each(rows):
+    """All tuples of one entry of each row, ascending as the rows are; None stands for the entry of an empty row."""
+    chosen = [()]
+    for row in rows:
+        entries = row if row else (None,)
+        chosen = [one + (entry,) for one in chosen for entry in entries]
+    return chosen

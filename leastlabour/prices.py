@@ -7,7 +7,7 @@ from leastlabour.tasks import most_gain
 from leastlabour.wishes import check_wish
 
 
-def _price_fault(works, prices, made):
+def price_fault(works, prices, made):
     """The first word that tells why these are no prices of works that can make these goods, or None."""
     if not is_sequence(prices) or len(prices) != works.goods:
         return "length"
@@ -21,13 +21,13 @@ def _price_fault(works, prices, made):
 
 def check_prices(works, prices):
     """The row of prices as a tuple."""
-    word = _price_fault(works, prices, can_be_made(works))
+    word = price_fault(works, prices, can_be_made(works))
     if word is not None:
         raise BadPrices(word)
     return tuple(prices)
 
 
-def _priced(row, prices):
+def priced(row, prices):
     """The worth of a row that is ZERO wherever the price is None."""
     total = ZERO
     for many, price in zip(row, prices):
@@ -36,15 +36,15 @@ def _priced(row, prices):
     return total
 
 
-def _gap_of(recipe, prices):
-    """Labour and what is eaten, priced, less the price of the good."""
-    return minus(plus(recipe.labour, _priced(recipe.eats, prices)), prices[recipe.good])
+def gap_by(recipe, labour, prices):
+    """This labour and what the recipe eats, priced, less the price of its good."""
+    return minus(plus(labour, priced(recipe.eats, prices)), prices[recipe.good])
 
 
 def _gaps_at(works, prices):
     """The gap of each recipe at right prices, None for one that is no making recipe."""
     making = making_recipes(works)
-    return tuple([_gap_of(recipe, prices) if number in making else None
+    return tuple([gap_by(recipe, recipe.labour, prices) if number in making else None
                   for number, recipe in enumerate(works.recipes)])
 
 
@@ -91,7 +91,7 @@ def _tight_of(works, gaps, good):
 def prices_fault(works, prices):
     """Judges whether these prices are the greatest row."""
     made = can_be_made(works)
-    word = _price_fault(works, prices, made)
+    word = price_fault(works, prices, made)
     if word is not None:
         return word
     gaps = _gaps_at(works, prices)
@@ -111,7 +111,7 @@ def worth_of(works, prices, wish):
     for good, many in enumerate(wished):
         if many != ZERO and row[good] is None:
             raise NotMade(good)
-    return _priced(wished, row)
+    return priced(wished, row)
 
 
 def tight_recipes(works):

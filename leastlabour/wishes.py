@@ -1,6 +1,6 @@
 """Checks of what is asked of works, and what amounts of recipes leave and need."""
 
-from leastlabour.errors import BadAmounts, BadLot, BadManner, BadOrder, BadWish, NoGood
+from leastlabour.errors import BadAmounts, BadLot, BadManner, BadOrder, BadWish, NoGood, NotMade
 from leastlabour.ratios import ONE, ZERO, dot, is_at_least, is_row, is_sequence, is_whole, minus, plus, times
 from leastlabour.works import is_order
 
@@ -17,6 +17,13 @@ def check_wish(goods, wish):
     if not is_row(wish, goods, ZERO):
         raise BadWish()
     return tuple(wish)
+
+
+def check_wished(wish, made):
+    """Raises NotMade with the least good that a right wish asks and that is not among those made."""
+    for good, many in enumerate(wish):
+        if many != ZERO and good not in made:
+            raise NotMade(good)
 
 
 def check_amounts(works, amounts):

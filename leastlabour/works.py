@@ -24,6 +24,21 @@ def is_short_row(thing):
     return is_sequence(thing) and 1 <= len(thing) <= MOST_GOODS and is_row(thing, len(thing), ZERO)
 
 
+def check_many(goods, recipes, most):
+    """Raises BadWorks unless works may have so many goods and these are a sequence of at most so many recipes."""
+    if not is_whole(goods, 1, MOST_GOODS):
+        raise BadWorks(0, "goods")
+    if not is_sequence(recipes) or len(recipes) > most:
+        raise BadWorks(0, "many")
+
+
+def all_but(recipes, number):
+    """The recipes without the one of this number."""
+    if not is_whole(number, 0, len(recipes) - 1):
+        raise NoRecipe(number)
+    return recipes[:number] + recipes[number + 1:]
+
+
 class Recipe:
     """Makes one piece of its good by its labour and by what it eats."""
 
@@ -49,10 +64,7 @@ class Works:
     """Numbered recipes of so many goods."""
 
     def __init__(self, goods, recipes):
-        if not is_whole(goods, 1, MOST_GOODS):
-            raise BadWorks(0, "goods")
-        if not is_sequence(recipes) or len(recipes) > MOST_RECIPES:
-            raise BadWorks(0, "many")
+        check_many(goods, recipes, MOST_RECIPES)
         for index, recipe in enumerate(recipes):
             if not isinstance(recipe, Recipe):
                 raise BadWorks(index, "recipe")
@@ -82,9 +94,7 @@ class Works:
 
     def without_recipe(self, number):
         """The works without one recipe."""
-        if not is_whole(number, 0, len(self.recipes) - 1):
-            raise NoRecipe(number)
-        return Works(self.goods, self.recipes[:number] + self.recipes[number + 1:])
+        return Works(self.goods, all_but(self.recipes, number))
 
     def with_labour(self, number, labour):
         """The works with another labour for one recipe."""

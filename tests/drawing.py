@@ -2,7 +2,9 @@
 
 from fractions import Fraction
 
+from leastlabour.joint import JointRecipe, JointWorks
 from leastlabour.ratios import ONE, ZERO, make_ratio
+from leastlabour.twoworks import TwoRecipe, TwoWorks
 from leastlabour.works import Recipe, Works
 
 HALF = (1, 2)
@@ -47,6 +49,31 @@ class Draw:
     def works(self, goods=None, most=7, zeros=6, high=1):
         goods = self.whole(1, 5) if goods is None else goods
         return Works(goods, [self.recipe(goods, zeros, high) for _ in range(self.whole(0, most))])
+
+    def joint_recipe(self, goods, zeros=6):
+        """A joint recipe that makes a good or some of them, with few labours, so that some cost alike."""
+        makes = [ZERO if self.chance(6, 10) else self.ratio(1, 2, 2) for _ in range(goods)]
+        makes[self.whole(0, goods - 1)] = ONE
+        return JointRecipe(self.ratio(1, 4, 1), self.row(goods, 0, 1, zeros), makes)
+
+    def joint_works(self, goods=None, most=6, zeros=8):
+        goods = self.whole(1, 4) if goods is None else goods
+        return JointWorks(goods, [self.joint_recipe(goods, zeros) for _ in range(self.whole(0, most))])
+
+    def two_recipe(self, goods, zeros=6):
+        """A recipe of two labours, one of which may be 0."""
+        first, second = ZERO if self.chance(1, 4) else self.ratio(1, 6, 2), ZERO if self.chance(1, 4) else ONE
+        if second == ZERO and first == ZERO or self.chance(1, 2):
+            second = self.ratio(1, 6, 2)
+        return TwoRecipe(self.whole(0, goods - 1), first, second, self.row(goods, 0, 1, zeros))
+
+    def two_works(self, goods=None, most=8, zeros=7):
+        goods = self.whole(1, 4) if goods is None else goods
+        return TwoWorks(goods, [self.two_recipe(goods, zeros) for _ in range(self.whole(0, most))])
+
+    def labours(self, many):
+        """Labours above 0 of so many recipes."""
+        return tuple(make_ratio(self.whole(1, 9), self.whole(1, 4)) for _ in range(many))
 
     def lot(self, goods):
         return tuple(good for good in range(goods) if self.chance(1, 2))

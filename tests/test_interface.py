@@ -40,6 +40,30 @@ FUNCTIONS = {
     "prices": ["check_prices(works, prices)", "gaps_of(works, prices)", "undercuts(works, prices)",
                "is_let(works, prices)", "greatest_prices(works)", "prices_fault(works, prices)",
                "worth_of(works, prices, wish)", "tight_recipes(works)"],
+    "manners": ["best_manner(works)", "all_best(works)", "improved(works, manner)", "steps_to_best(works, manner)"],
+    "serving": ["least_labour(works, wish)", "serve(works, wish)", "served_fault(works, wish, served)",
+                "most_times(works, wish, labour)"],
+    "joint": ["as_joint(works)", "joint_net(works, amounts)", "joint_serves(works, amounts, wish)",
+              "joint_undercut(works, prices)"],
+    "jointserve": ["joint_least(works, wish)", "joint_made(works)", "joint_served_fault(works, wish, served)",
+                   "not_served_fault(works, wish, told)"],
+    "pricerows": ["price_rows(works)", "span_at(works, wish, good)"],
+    "together": ["separate_prices(works)", "adds_up(works)", "together_pairs(works)", "apart_groups(works)",
+                 "gain_of(works, one, other)"],
+    "burdens": ["fair_burdens(works, wish)", "burdens_fault(works, wish, burdens)"],
+    "twoworks": ["at_share(two, share)", "own_needs(two, manner)"],
+    "shares": ["share_list(two)", "cuts_of(two)", "prices_at(two, share)", "stretches_fault(two, stretches)"],
+    "frontiers": ["frontier_of(two, wish)", "least_second(two, wish, first)", "least_first(two, wish, second)",
+                  "can_serve(two, wish, first, second)", "two_served_fault(two, wish, first, second, told)",
+                  "too_little_fault(two, wish, first, second, told)"],
+    "trade": ["two_lands(one, other)", "trade_gain(one, other, wish, other_wish)", "compare_lands(one, other)"],
+    "facts": ["check_labours(works, labours)", "check_facts(works, facts)", "with_labours(works, labours)",
+              "first_broken(facts, labours)", "some_labours(works, facts)"],
+    "parts": ["able_manners(works)", "parts_of(works, manner)"],
+    "unknown": ["best_task(works, facts, manner)", "ever_best(works, facts, manner)", "best_ever(works, facts)"],
+    "claims": ["check_claim(works, claim)", "true_at(works, labours, claim)",
+               "claim_tasks(works, facts, claim, holds)", "decide(works, facts, claim)", "sure_pairs(works, facts)",
+               "standing(works, facts, recipe)"],
 }
 CLASSES = {
     "works": ["Recipe(good, labour, eats)", "Works(goods, recipes)"],
@@ -50,13 +74,30 @@ CLASSES = {
     "ownrows": ["MannerRow(prices)"],
     "beginnings": ["Ceiling(value, worth, amounts)"],
     "growing": ["Plan(starts, turns)", "Stopped(where, index)", "Held(weights)"],
+    "serving": ["Served(labour, amounts, prices)"],
+    "joint": ["JointRecipe(labour, eats, makes)", "JointWorks(goods, recipes)"],
+    "jointserve": ["JointServed(labour, amounts, prices)", "NotServed(weights)"],
+    "pricerows": ["PriceRow(prices, wish)"],
+    "together": ["AddsUp(prices)", "Apart(one, other, together, apart)"],
+    "twoworks": ["TwoRecipe(good, first, second, eats)", "TwoWorks(goods, recipes)"],
+    "shares": ["Stretch(low, high, manner)"],
+    "frontiers": ["TwoServed(amounts, first, second)", "TooLittle(share, prices)"],
+    "trade": ["Gain(first, second, saved_first, saved_second)", "Idle(share)", "Pays(one_sells, other_sells)"],
+    "facts": ["Clash(lots)"],
+    "unknown": ["NeverBest(weights)"],
+    "claims": ["Sure(papers)", "Never(papers)", "Both(yes, no)"],
 }
+NO_RESULTS = {"Recipe", "Works", "JointRecipe", "JointWorks", "TwoRecipe", "TwoWorks"}
 METHODS = {
     ("works", "Works"): ["recipes_of(self, good)", "with_recipe(self, recipe)", "without_recipe(self, number)",
                          "with_labour(self, number, labour)", "renamed(self, order)", "scaled_good(self, good, size)",
                          "times_labour(self, size)"],
+    ("joint", "JointWorks"): [],
+    ("twoworks", "TwoWorks"): ["swapped(self)", "with_recipe(self, recipe)", "without_recipe(self, number)"],
 }
-GENERATORS = {("tasks", "barred_lots"), ("selfeating", "self_eating_lots"), ("ownrows", "manners_of")}
+GENERATORS = {("tasks", "barred_lots"), ("selfeating", "self_eating_lots"), ("ownrows", "manners_of"),
+              ("manners", "all_best"), ("manners", "steps_to_best"), ("parts", "able_manners"),
+              ("unknown", "best_ever")}
 
 
 def thing_of(module, name):
@@ -92,6 +133,42 @@ class TestInterface(unittest.TestCase):
                 self.assertEqual(method + str(inspect.signature(own[method])), shape)
             for method in ("__len__", "__iter__", "__eq__"):
                 self.assertIn(method, own)
+
+    def results(self):
+        """All result classes, each with the names of its attributes."""
+        for module, shapes in CLASSES.items():
+            for shape in shapes:
+                name, _, more = shape.rstrip(")").partition("(")
+                if name not in NO_RESULTS:
+                    yield thing_of(module, name), more.split(", ")
+
+    def test_results_keep_the_very_things(self):
+        for kind, names in self.results():
+            things = [object() for _ in names]
+            made = kind(*things)
+            self.assertEqual(list(vars(made)), names)
+            for name, thing in zip(names, things):
+                self.assertIs(getattr(made, name), thing)
+            self.assertIs(getattr(kind(**dict(zip(names, things))), names[0]), things[0])
+
+    def test_results_are_equal_by_all_attributes(self):
+        for kind, names in self.results():
+            things = [[place] for place in range(len(names))]
+            self.assertTrue(kind(*things) == kind(*[list(thing) for thing in things]))
+            for place in range(len(names)):
+                changed = list(things)
+                changed[place] = None
+                self.assertFalse(kind(*things) == kind(*changed), kind)
+                self.assertTrue(kind(*things) != kind(*changed), kind)
+
+    def test_results_of_two_classes_are_never_equal(self):
+        made = [kind(*[1 for _ in names]) for kind, names in self.results()]
+        for at, one in enumerate(made):
+            for place, other in enumerate(made):
+                self.assertIs(one == other, at == place)
+            self.assertFalse(one == 1)
+            self.assertFalse(one == (1,))
+            self.assertFalse(one == None)  # noqa: E711
 
 
 if __name__ == "__main__":

@@ -209,7 +209,8 @@ class TestCode(unittest.TestCase):
                 if isinstance(node, ast.Raise) and node.exc is not None:
                     self.assertIsInstance(node.exc, ast.Call, where)
                 if isinstance(node, ast.ExceptHandler):
-                    self.assertTrue(node.type.id in CLASSES, where)
+                    caught = node.type.elts if isinstance(node.type, ast.Tuple) else [node.type]
+                    self.assertTrue(all(error.id in CLASSES for error in caught), where)
 
     def test_generators_and_views_are_iterated_at_once(self):
         for name, tree in TREES.items():
