@@ -5,12 +5,12 @@ from math import lcm
 from leastlabour.joint import first_undercut, joint_gap, left_of
 from leastlabour.jointserve import joint_made
 from leastlabour.lots import all_lots
-from leastlabour.ratios import (ONE, ZERO, compare, dot, greatest_of, is_at_least, least_of, minus, plus,
-                                sum_of, times)
+from leastlabour.ratios import (ONE, ZERO, compare, dot, greatest_of, is_at_least, least_of, minus, plus, sum_of,
+                                times)
 from leastlabour.systems import Solved, solve
 from leastlabour.tasks import Found, find_from
 from leastlabour.weights import whole_row
-from leastlabour.wishes import check_good, check_wish, check_wished, others_of
+from leastlabour.wishes import check_good, check_wish, check_wished
 
 
 class PriceRow:
@@ -29,8 +29,8 @@ def check_all_made(works):
     check_wished([ONE] * works.goods, joint_made(works))
 
 
-def _leaves_all(goods, rows):
-    """Whether each good is left over by one of the rows."""
+def _leave_all(goods, rows):
+    """Whether each good is left over by one of the rows of what recipes leave."""
     return all([any([compare(row[good], ZERO) > 0 for row in rows]) for good in range(goods)])
 
 
@@ -46,28 +46,29 @@ def _corner_by(goods, rows, labours, priced):
 
 
 def _corners(works):
-    """Corners of the let prices, each once: all that some wish above 0 of each good needs, perhaps more."""
-    left = [left_of(recipe) for recipe in works.recipes]
+    """Corners of the let prices, each once: all that a wish above 0 of each good may need, perhaps more.
+
+    Where such a wish needs a corner, recipes that are tight there serve it: each good is left over by one of them.
+    """
+    goods = list(range(works.goods))
     found = {}
     for numbers in all_lots(list(range(len(works)))):
-        rows = [left[number] for number in numbers]
-        # At a corner that such a wish needs, tight recipes serve that wish: some of each good is left over by one.
-        if len(numbers) > works.goods or not _leaves_all(works.goods, rows):
+        rows = [left_of(works.recipes[number]) for number in numbers]
+        if len(numbers) > works.goods or not _leave_all(works.goods, rows):
             continue
         labours = [works.recipes[number].labour for number in numbers]
-        for free in all_lots(list(range(works.goods))):
-            if len(free) == works.goods - len(numbers):
-                prices = _corner_by(works.goods, rows, labours, others_of(works.goods, free))
-                if prices is not None and prices not in found and first_undercut(works, prices) is None:
-                    found[prices] = True
+        for priced in all_lots(goods):
+            prices = _corner_by(works.goods, rows, labours, priced) if len(priced) == len(numbers) else None
+            if prices is not None and prices not in found and first_undercut(works, prices) is None:
+                found[prices] = True
     return list(found)
 
 
 def _wish_for(works, prices):
-    """A wish that is worth more at this corner than at all other let prices, or None if there is none."""
+    """A wish that is worth more at this corner than at all other let prices, or None if there is none above 0."""
     tight = [left_of(recipe) for recipe in works.recipes if joint_gap(recipe, prices) == ZERO]
-    # A wish above 0 needs this corner alone exactly if all tight recipes, each with an amount above 0, leave more
-    # than it of the goods of price 0 and just it of the others. So at least one piece is made by each of them.
+    # What all tight recipes leave together, each with an amount above 0, is such a wish; but of each good of price 0
+    # the wish is for less than that. Amounts may be multiplied: each is 1 or more, and so is all that they leave.
     columns = [[row[good] for row in tight] for good in range(works.goods)]
     told = find_from(columns, [minus(ONE, sum_of(column)) for column in columns])
     if not isinstance(told, Found):

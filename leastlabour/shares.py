@@ -94,10 +94,9 @@ def prices_at(two, share):
     """The greatest row at a share from 0 to 1."""
     if not is_share(share):
         raise BadShare()
-    if share == ZERO:
-        return row_at(two, share_list(two)[0].manner, share)
-    if share == ONE:
-        return row_at(two, share_list(two)[-1].manner, share)
+    if share in (ZERO, ONE):
+        stretch = share_list(two)[0 if share == ZERO else -1]
+        return row_at(two, stretch.manner, share)
     return greatest_prices(at_share(two, share))
 
 

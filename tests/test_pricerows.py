@@ -92,6 +92,21 @@ class TestPriceRows(unittest.TestCase):
             wanted = sorted(tuple(ONE if good == other else ZERO for other in range(goods)) for good in range(goods))
             self.assertEqual(self.check(works), wanted)
 
+    def test_a_corner_that_no_wish_needs(self):
+        # The recipes 0 to 2 are tight at (1, 1/10, 1/10) and leave, one or the other, each good; but they cannot
+        # leave some of goods 1 and 2 at once: with more of both prices the row is let, too.
+        nets = ((1, 1, -3), (1, -3, 1), (1, -1, -2), (0, 1, 0), (0, 0, 1))
+        recipes = [JointRecipe(labour, [(max(-one, 0), 1) for one in net], [(max(one, 0), 1) for one in net])
+                   for labour, net in zip(((4, 5), (4, 5), (7, 10), (5, 1), (5, 1)), nets)]
+        works = JointWorks(3, recipes)
+        corner = (ONE, (1, 10), (1, 10))
+        self.assertIn(tuple(fracs(corner)), plain_corners(works))
+        self.assertNotIn(corner, self.check(works))
+
+    def test_recipes_that_eat_more_than_they_make(self):
+        works = JointWorks(2, [JointRecipe(ONE, NOTHING, (ONE, ZERO)), JointRecipe(ONE, (THREE, ZERO), (ZERO, ONE))])
+        self.assertEqual(self.check(works), [(ONE, (4, 1))])
+
     def test_drawn_works(self):
         draw = Draw(241)
         sizes = {}
@@ -135,7 +150,7 @@ class TestPriceRows(unittest.TestCase):
             row = greatest_prices(works)
             if None not in row:
                 seen += 1
-                self.assertEqual([one.prices for one in price_rows(as_joint(works))], [row])
+                self.assertEqual(self.check(as_joint(works)), [row])
 
     def test_asked_twice(self):
         draw = Draw(245)

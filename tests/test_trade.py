@@ -79,6 +79,11 @@ class TestGain(unittest.TestCase):
         self.assertEqual(trade_gain(OURS, THEIRS, [ZERO, ZERO], [ZERO, ZERO]), Gain(ZERO, ZERO, ZERO, ZERO))
         self.assertEqual(trade_gain(OURS, OURS, ONES, ONES), Gain(THREE, THREE, ZERO, ZERO))
 
+    def test_without_recipes(self):
+        bare = Works(2, ())
+        self.assertEqual(trade_gain(bare, bare, (ZERO, ZERO), (ZERO, ZERO)), Gain(ZERO, ZERO, ZERO, ZERO))
+        self.assertEqual(trade_gain(bare, OURS, (ZERO, ZERO), ONES), Gain(ZERO, THREE, ZERO, ZERO))
+
     def test_one_land_that_wishes_nothing(self):
         self.assertEqual(trade_gain(OURS, THEIRS, ONES, (ZERO, ZERO)), Gain(THREE, ZERO, ZERO, ZERO))
         self.assertEqual(trade_gain(OURS, THEIRS, (ZERO, ZERO), ONES), Gain(ZERO, (5, 1), ZERO, ZERO))

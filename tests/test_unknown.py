@@ -95,6 +95,11 @@ class TestEverBest(unittest.TestCase):
         self.assertEqual(ever_best(works, (), [None, None]), ())
         self.assertEqual(list(best_ever(works, [])), [(None, None)])
 
+    def test_without_a_good_that_can_be_made(self):
+        works = Works(1, [Recipe(0, ONE, (ONE,)), Recipe(0, ONE, (TWO,))])
+        self.check(works, [(0, TWO, 1)], (None,))
+        self.assertEqual(list(best_ever(works, [(0, TWO, 1)])), [(None,)])
+
     def test_recipes_that_are_alike(self):
         works = Works(1, [Recipe(0, ONE, (HALF,))] * 3)
         self.assertEqual(list(best_ever(works, [(0, ONE, 1), (1, ONE, 2)])), [(0,), (1,), (2,)])
