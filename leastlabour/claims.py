@@ -90,7 +90,7 @@ def true_at(works, labours, claim):
     return sign > 0 if word == "above" else sign >= 0
 
 
-def _let_rows(works):
+def let_rows(works):
     """For each making recipe the row, at labours and then prices, that is at least 0 where it does not undercut."""
     rows = []
     for number in making_recipes(works):
@@ -105,7 +105,7 @@ def _price_tasks(works, facts, claim, holds):
     word, good, size, other = claim
     high, high_size, low, low_size = (good, ONE, other, size) if holds else (other, size, good, ONE)
     places = len(works) + works.goods
-    let = [(row, ZERO) for row in _let_rows(works)]
+    let = [(row, ZERO) for row in let_rows(works)]
     price = times_row(unit_row(places, len(works) + high), high_size)
     total = ONE if (word == "above") == holds else ZERO
     tasks = []

@@ -71,6 +71,32 @@ class Draw:
         goods = self.whole(1, 4) if goods is None else goods
         return TwoWorks(goods, [self.two_recipe(goods, zeros) for _ in range(self.whole(0, most))])
 
+    def eating_works(self, goods=None, more=3, zeros=4):
+        """Works with a recipe for each good at least, most of which eat a little: they run up to some rate."""
+        goods = self.whole(1, 4) if goods is None else goods
+        recipes = []
+        for good in list(range(goods)) + [self.whole(0, goods - 1) for _ in range(self.whole(0, more))]:
+            eats = [ZERO if self.chance(zeros, 10) else make_ratio(self.whole(1, 5), self.pick((6, 8, 12)))
+                    for _ in range(goods)]
+            recipes.append(Recipe(good, make_ratio(self.whole(1, 8), self.whole(1, 3)), eats))
+        return Works(goods, recipes)
+
+    def coming_works(self):
+        """Works in which a manner of good 0 is often best at small and at great rates, and not between."""
+        twice, base = self.whole(1, 3), self.whole(1, 4)
+        # At x = 1 + rate the second recipe of good 0 costs twice * (x - low) * (x - high) more than the first one.
+        low = 1 + self.whole(1, 6) * Fraction(1, 4)
+        high = low + self.whole(1, 6) * Fraction(1, 4)
+        straight, more = twice * (low + high + 1), twice * low * high
+        recipes = [Recipe(1, ONE, (ZERO,) * 3), Recipe(2, ONE, (ZERO, ONE, ZERO)),
+                   Recipe(0, (base, 1), (ZERO, back(straight), ZERO)),
+                   Recipe(0, back(base + more), (ZERO, ZERO, (twice, 1)))]
+        if self.chance(1, 2):
+            recipes.append(Recipe(0, back(frac(self.ratio(1, 9)) + base), (ZERO, back(straight / 2), ZERO)))
+        if self.chance(1, 3):
+            recipes.append(Recipe(self.whole(1, 2), (2, 1), (ZERO, ZERO, (1, 9))))
+        return Works(3, recipes)
+
     def labours(self, many):
         """Labours above 0 of so many recipes."""
         return tuple(make_ratio(self.whole(1, 9), self.whole(1, 4)) for _ in range(many))

@@ -64,6 +64,24 @@ FUNCTIONS = {
     "claims": ["check_claim(works, claim)", "true_at(works, labours, claim)",
                "claim_tasks(works, facts, claim, holds)", "decide(works, facts, claim)", "sure_pairs(works, facts)",
                "standing(works, facts, recipe)"],
+    "bounds": ["ratio_tasks(works, facts, good, other)", "greatest_ratio(works, facts, good, other)",
+               "price_range(works, facts, good, other)", "regret_tasks(works, facts, manner, wish)",
+               "regret(works, facts, manner, wish)", "safest_manner(works, facts, wish)"],
+    "unknownjudges": ["decided_fault(works, facts, claim, told)", "ratio_fault(works, facts, good, other, told)",
+                      "regret_fault(works, facts, manner, wish, told)"],
+    "rates": ["check_rate(rate)", "at_rate(works, rate)", "does_run(works, rate)", "runs_up_to(works, parts, most)",
+              "own_prices(works, manner, rate)"],
+    "worths": ["parted_price(works, manner, wish, rate)", "date_labour(works, manner, wish, steps)"],
+    "polynomials": ["check_polynomial(polynomial)", "value_at(polynomial, place)", "add_polynomials(one, other)",
+                    "multiply_polynomials(one, other)", "slope_of(polynomial)", "common_divisor(one, other)",
+                    "divide_polynomials(one, other)"],
+    "roots": ["count_roots(polynomial, low, high)", "find_roots(polynomial, low, high, width)",
+              "sides_of(polynomial, low, high)", "is_never_below(polynomial, low, high)"],
+    "switches": ["making_polynomial(works, manner)", "price_polynomial(works, manner, good)",
+                 "switch_polynomial(works, manner, recipe)", "find_switches(works, manner, other, low, high, width)",
+                 "limit_of(works, manner, high, width)", "is_best_within(works, manner, low, high)"],
+    "returns": ["rate_list(works, low, high, width)", "find_return(works, low, high, width)",
+                "return_fault(works, returned)"],
 }
 CLASSES = {
     "works": ["Recipe(good, labour, eats)", "Works(goods, recipes)"],
@@ -86,6 +104,10 @@ CLASSES = {
     "facts": ["Clash(lots)"],
     "unknown": ["NeverBest(weights)"],
     "claims": ["Sure(papers)", "Never(papers)", "Both(yes, no)"],
+    "bounds": ["Bound(most, labours, papers)"],
+    "worths": ["Parted(price, labour, worth)", "Dated(labours, rest)"],
+    "switches": ["Switches(spans, sides)"],
+    "returns": ["RateStretch(low, high, word, manner)", "Returned(manner, first, between, last)"],
 }
 NO_RESULTS = {"Recipe", "Works", "JointRecipe", "JointWorks", "TwoRecipe", "TwoWorks"}
 METHODS = {
