@@ -6,7 +6,7 @@ from leastlabour.facts import check_facts
 from leastlabour.making import can_be_made
 from leastlabour.ownrows import check_able
 from leastlabour.parts import able_manners, parts_by
-from leastlabour.ratios import ONE, ZERO, compare, negative, over, plus_rows, times_row
+from leastlabour.ratios import ONE, ZERO, is_lesser, least_of, negative, over, plus_rows, times_row
 from leastlabour.tasks import Endless, least_cost
 from leastlabour.unknown import check_kept, fact_rows, unit_row
 from leastlabour.wishes import check_good, check_wish, check_wished, pieces_of
@@ -80,12 +80,9 @@ def _bound_of(works, tasks):
     for answer in answers:
         if isinstance(answer, Endless):
             return Bound(None, tuple([(step, 1) for step in answer.way[:len(works)]]), ())
-    first = answers[0]
-    for answer in answers:
-        if compare(answer.value, first.value) < 0:
-            first = answer
-    papers = tuple([answer.weights for answer in answers])
-    return Bound(negative(first.value), first.numbers[:len(works)], papers)
+    value = least_of([answer.value for answer in answers])
+    reaching = [answer.numbers for answer in answers if answer.value == value][0]
+    return Bound(negative(value), reaching[:len(works)], tuple([answer.weights for answer in answers]))
 
 
 def greatest_ratio(works, facts, good, other):
@@ -129,13 +126,6 @@ def regret(works, facts, manner, wish):
     return _bound_of(works, tasks)
 
 
-def _is_less(one, other):
-    """Whether the first bound is below the second; None is greater than all ratios."""
-    if one is None or other is None:
-        return one is not None and other is None
-    return compare(one, other) < 0
-
-
 def safest_manner(works, facts, wish):
     """The first able manner with the least bound of its regret, and that bound."""
     told = check_facts(works, facts)
@@ -145,6 +135,6 @@ def safest_manner(works, facts, wish):
     found = None
     for manner, own in needs:
         most = _bound_of(works, _regret_tasks(works, told, own, needs)).most
-        if found is None or _is_less(most, found[1]):
+        if found is None or is_lesser(most, found[1]):
             found = (manner, most)
     return found

@@ -114,7 +114,12 @@ def worth_of(works, prices, wish):
     return priced(wished, row)
 
 
+def tight_at(works, prices):
+    """For each good the ascending numbers of its recipes that are tight at right prices."""
+    gaps = _gaps_at(works, prices)
+    return tuple([_tight_of(works, gaps, good) for good in range(works.goods)])
+
+
 def tight_recipes(works):
     """For each good the ascending numbers of its recipes that are tight at the greatest row."""
-    gaps = _gaps_at(works, greatest_prices(works))
-    return tuple([_tight_of(works, gaps, good) for good in range(works.goods)])
+    return tight_at(works, greatest_prices(works))

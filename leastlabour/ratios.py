@@ -93,6 +93,13 @@ def compare(one, other):
     return -1 if left < right else 1
 
 
+def is_lesser(one, other):
+    """Whether the first is below the second; None is greater than all ratios."""
+    if one is None or other is None:
+        return one is not None
+    return compare(one, other) < 0
+
+
 def sum_of(row):
     """The sum of a row."""
     total = ZERO

@@ -29,7 +29,7 @@ def whole_slope(whole):
 
 def rest_of(one, other):
     """What is left when the first is divided by the second, times some number above 0, without a common divisor."""
-    rest = list(one)
+    rest = one
     size = abs(other[-1])
     sign = 1 if other[-1] > 0 else -1
     while len(rest) >= len(other):

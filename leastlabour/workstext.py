@@ -11,12 +11,14 @@ def row_text(row):
     return " + ".join(parts) if parts else "nothing"
 
 
+def with_eaten(head, eats):
+    """The text of a recipe: its head, and what it eats, if it eats anything."""
+    return head if all([one == ZERO for one in eats]) else f"{head} + {row_text(eats)}"
+
+
 def recipe_text(recipe):
     """The recipe as a text, such as "0: 1 + 1/2 of 1"."""
-    head = f"{recipe.good}: {ratio_text(recipe.labour)}"
-    if all([one == ZERO for one in recipe.eats]):
-        return head
-    return f"{head} + {row_text(recipe.eats)}"
+    return with_eaten(f"{recipe.good}: {ratio_text(recipe.labour)}", recipe.eats)
 
 
 def works_text(works):
@@ -83,8 +85,8 @@ def read_goods(text):
     return None
 
 
-def works_of(text):
-    """The works that are shown as this very text."""
+def read_rows(text, reader, most):
+    """The number of goods that a text shows, and the recipes, at most so many, that the reader reads in its rows."""
     if not isinstance(text, str):
         raise BadText(0, "text")
     rows = text.split("\n")
@@ -93,10 +95,16 @@ def works_of(text):
         raise BadText(0, "goods")
     recipes = []
     for number, row in enumerate(rows[1:], start=1):
-        recipe = _read_recipe(goods, row)
+        recipe = reader(goods, row)
         if recipe is None:
             raise BadText(number, "recipe")
         recipes.append(recipe)
-    if len(recipes) > MOST_RECIPES:
+    if len(recipes) > most:
         raise BadText(0, "many")
+    return goods, recipes
+
+
+def works_of(text):
+    """The works that are shown as this very text."""
+    goods, recipes = read_rows(text, _read_recipe, MOST_RECIPES)
     return Works(goods, recipes)

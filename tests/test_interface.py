@@ -82,6 +82,16 @@ FUNCTIONS = {
                  "limit_of(works, manner, high, width)", "is_best_within(works, manner, low, high)"],
     "returns": ["rate_list(works, low, high, width)", "find_return(works, low, high, width)",
                 "return_fault(works, returned)"],
+    "buying": ["check_market(goods, market)", "with_market(works, market)", "made_or_bought(works, market)",
+               "bought_until(works, market, good)", "buys_nothing(works, market)"],
+    "feels": ["used_until(works, recipe)", "stays_until(works, recipe)", "feels(works, recipe, rise)"],
+    "likeworks": ["unlike_wish(one, other)", "dearer_good(one, other)", "joined_works(one, other)",
+                  "joined_gain(one, other)", "idle_recipes(works)", "bare_works(works)"],
+    "changes": ["apply_changes(works, changes)", "numbers_behind(works, changes)"],
+    "mends": ["all_choices(size)", "first_unmet(works, pool, choice, goals)", "find_mends(works, pool, goals)",
+              "mends_fault(works, pool, goals, mends)", "find_spoilers(works, pool, goals)"],
+    "room": ["room_for(works, good, eats)", "labour_limit(works, number, good, ratio)"],
+    "alltexts": ["two_text(two)", "joint_text(works)", "two_of(text)", "joint_of(text)"],
 }
 CLASSES = {
     "works": ["Recipe(good, labour, eats)", "Works(goods, recipes)"],
@@ -108,18 +118,23 @@ CLASSES = {
     "worths": ["Parted(price, labour, worth)", "Dated(labours, rest)"],
     "switches": ["Switches(spans, sides)"],
     "returns": ["RateStretch(low, high, word, manner)", "Returned(manner, first, between, last)"],
+    "mends": ["Mends(least, others)", "Spoiler(choice, added, goal)"],
+    "bench": ["Bench(works)"],
 }
-NO_RESULTS = {"Recipe", "Works", "JointRecipe", "JointWorks", "TwoRecipe", "TwoWorks"}
+NO_RESULTS = {"Recipe", "Works", "JointRecipe", "JointWorks", "TwoRecipe", "TwoWorks", "Bench"}
+PROPERTIES = {("mends", "Mends"): ["choices", "needed"]}
 METHODS = {
     ("works", "Works"): ["recipes_of(self, good)", "with_recipe(self, recipe)", "without_recipe(self, number)",
                          "with_labour(self, number, labour)", "renamed(self, order)", "scaled_good(self, good, size)",
                          "times_labour(self, size)"],
     ("joint", "JointWorks"): [],
     ("twoworks", "TwoWorks"): ["swapped(self)", "with_recipe(self, recipe)", "without_recipe(self, number)"],
+    ("bench", "Bench"): ["put(self, change)", "take_back(self, number)", "prices_now(self)", "tried(self, work)",
+                         "trial(self)"],
 }
 GENERATORS = {("tasks", "barred_lots"), ("selfeating", "self_eating_lots"), ("ownrows", "manners_of"),
               ("manners", "all_best"), ("manners", "steps_to_best"), ("parts", "able_manners"),
-              ("unknown", "best_ever")}
+              ("unknown", "best_ever"), ("mends", "all_choices")}
 
 
 def thing_of(module, name):
@@ -145,7 +160,8 @@ class TestInterface(unittest.TestCase):
                 self.assertTrue(inspect.isclass(thing), name)
                 self.assertEqual(name + str(inspect.signature(thing)), shape)
                 self.assertEqual(thing.__module__, "leastlabour." + module)
-                self.assertIn("__eq__", vars(thing))
+                # The document promises no == of a bench.
+                self.assertEqual("__eq__" in vars(thing), name != "Bench")
 
     def test_methods_stand_in_the_class_itself(self):
         for (module, name), shapes in METHODS.items():
@@ -153,8 +169,13 @@ class TestInterface(unittest.TestCase):
             for shape in shapes:
                 method = shape.partition("(")[0]
                 self.assertEqual(method + str(inspect.signature(own[method])), shape)
-            for method in ("__len__", "__iter__", "__eq__"):
+            for method in ("__len__", "__iter__"):
                 self.assertIn(method, own)
+
+    def test_properties_stand_in_the_class_itself(self):
+        for (module, name), names in PROPERTIES.items():
+            own = vars(thing_of(module, name))
+            self.assertEqual([word for word, thing in own.items() if isinstance(thing, property)], names)
 
     def results(self):
         """All result classes, each with the names of its attributes."""

@@ -11,7 +11,7 @@ LIBRARY = {"math": {"gcd", "lcm", "isqrt", "comb", "perm", "factorial"}}
 BUILTINS = {
     "len", "range", "enumerate", "zip", "min", "max", "sum", "abs", "sorted", "reversed", "int", "str", "bool", "list",
     "tuple", "dict", "set", "isinstance", "ord", "repr", "any", "all", "divmod", "ValueError", "TypeError", "KeyError",
-    "IndexError", "LookupError", "ZeroDivisionError", "RuntimeError", "NotImplementedError", "iter"}
+    "IndexError", "LookupError", "ZeroDivisionError", "RuntimeError", "NotImplementedError", "iter", "property"}
 METHODS = {
     "append", "clear", "copy", "count", "endswith", "extend", "find", "get", "index", "insert", "isalnum", "isalpha",
     "isdigit", "items", "join", "keys", "lower", "lstrip", "partition", "pop", "remove", "replace", "reverse", "rfind",
@@ -179,6 +179,31 @@ class TestCode(unittest.TestCase):
                     self.assertIn(node.name, DUNDERS)
                 if isinstance(node, ast.Attribute) and isinstance(node.ctx, ast.Store):
                     self.assertNotIn(node.attr, BARRED_ATTRIBUTES)
+
+    def test_properties(self):
+        stored = {node.attr for tree in TREES.values() for node in ast.walk(tree)
+                  if isinstance(node, ast.Attribute) and isinstance(node.ctx, ast.Store)}
+        for name, tree in TREES.items():
+            parents = parents_of(tree)
+            for node in ast.walk(tree):
+                if isinstance(node, ast.Name) and node.id == "property":
+                    function = parents[node]
+                    self.assertIn(node, function.decorator_list, name)
+                    self.assertNotIn(function.name, stored | BARRED_ATTRIBUTES)
+                    self.assertEqual([arg.arg for arg in function.args.args], ["self"])
+                    changing = [part for part in ast.walk(function) if isinstance(part, (ast.AugAssign, ast.Delete))]
+                    self.assertEqual(changing, [], name)
+
+    def test_what_stands_in_finally_and_exit(self):
+        for name, tree in TREES.items():
+            for node in ast.walk(tree):
+                rows = node.finalbody if isinstance(node, ast.Try) else []
+                if isinstance(node, ast.FunctionDef) and node.name == "__exit__":
+                    rows = [row for row in node.body if not isinstance(row.value, ast.Constant)]
+                for row in rows:
+                    self.assertIsInstance(row, ast.Assign, (name, row.lineno))
+                    for part in ast.walk(row.value):
+                        self.assertIsInstance(part, (ast.Name, ast.Attribute, ast.Tuple, ast.Load), (name, row.lineno))
 
     def test_builtins(self):
         words = set(dir(builtins))
