@@ -11,7 +11,7 @@ class Bench:
 
     def __init__(self, works):
         self.works = works
-        self.works_now = works
+        self.works_now = apply_changes(works, ())
         self.standing = ()
         self.log = ()
 

@@ -9,12 +9,7 @@ def _is_change(thing):
     """Whether this is a sequence with one of the three words first and as many entries as it has."""
     if not is_sequence(thing) or not thing:
         return False
-    word = thing[0]
-    if not isinstance(word, str):
-        return False
-    if word == "labour":
-        return len(thing) == 3
-    return word in ("let", "strike") and len(thing) == 2
+    return thing[0] in ("let", "strike", "labour") and len(thing) == (3 if thing[0] == "labour" else 2)
 
 
 def _check_let(works, index, recipe, many):

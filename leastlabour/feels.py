@@ -16,7 +16,7 @@ def _check_recipe(works, recipe):
 
 
 def used_until(works, recipe):
-    """"always", "never", or "until" and the greatest labour of the recipe at which it is used."""
+    """The word "always" or "never", or "until" and the greatest labour of the recipe at which it is used."""
     _check_recipe(works, recipe)
     if recipe not in making_recipes(works):
         return ("never", None)

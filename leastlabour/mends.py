@@ -66,12 +66,7 @@ def _is_goal(thing):
     """Whether this is a sequence with one of the four words first and as many entries as it has."""
     if not is_sequence(thing) or not thing:
         return False
-    word = thing[0]
-    if not isinstance(word, str):
-        return False
-    if word in ("at most", "dearer"):
-        return len(thing) == 3
-    return word in ("made", "used") and len(thing) == 2
+    return thing[0] in ("made", "used", "at most", "dearer") and len(thing) == (2 if thing[0] in ("made", "used") else 3)
 
 
 def _goal_fault(goods, many, goal):

@@ -112,18 +112,14 @@ def _tight_at(works, rate):
     return tight_recipes(at_rate(works, rate)) if does_run(works, rate) else None
 
 
-def _common(one, other):
-    """For each good the recipes that are in both rows of recipes."""
-    return [[number for number in numbers if number in others] for numbers, others in zip(one, other)]
+def _in_both(first, last):
+    """For each good the recipes that are tight at two rates, or None if a good that can be made has none."""
+    both = [[number for number in numbers if number in others] for numbers, others in zip(first, last)]
+    return None if any([numbers and not common for numbers, common in zip(first, both)]) else both
 
 
-def _coming_back(first, between, last):
-    """A manner that is best by the first and the last tight recipes and not by those between, or None."""
-    both = _common(first, last)
-    for good, numbers in enumerate(both):
-        # A good that can be made and has no recipe in both is in no such manner.
-        if not numbers and first[good]:
-            return None
+def _leaving(both, between):
+    """A manner of these recipes that has one that is not among those between, or None."""
     for good, numbers in enumerate(both):
         for number in numbers:
             if number not in between[good]:
@@ -135,10 +131,12 @@ def _coming_back(first, between, last):
 
 def _returned_at(ends, first, last):
     """A Returned with the first and the last of the ends that have these places, or None."""
-    for rate, tight in ends[first + 1:last]:
-        manner = _coming_back(ends[first][1], tight, ends[last][1])
-        if manner is not None:
-            return Returned(manner, ends[first][0], rate, ends[last][0])
+    both = _in_both(ends[first][1], ends[last][1])
+    if both is not None:
+        for rate, tight in ends[first + 1:last]:
+            manner = _leaving(both, tight)
+            if manner is not None:
+                return Returned(manner, ends[first][0], rate, ends[last][0])
     return None
 
 

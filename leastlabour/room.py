@@ -17,7 +17,7 @@ def _left_rows(goods, recipes):
 
 
 def room_for(works, good, eats):
-    """"to" and the greatest labour at which a new recipe is of use, or "any", or "never"."""
+    """The word "any" or "never", or "to" and the greatest labour at which a new recipe is of use."""
     check_good(works.goods, good)
     if not is_row(eats, works.goods, ZERO):
         raise BadRecipe("eats")
@@ -52,7 +52,7 @@ def _least_reaching(works, number, good, ratio):
 
 
 def labour_limit(works, number, good, ratio):
-    """"to" and the greatest labour of the recipe at which the price is at most the ratio, or "any", or "never"."""
+    """The word "any" or "never", or "to" and the greatest labour at which the good's price is at most the ratio."""
     without = works.without_recipe(number)
     check_good(works.goods, good)
     check_wished(pieces_of(works.goods, (good,)), can_be_made(works))

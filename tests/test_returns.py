@@ -112,6 +112,12 @@ class TestReturn(unittest.TestCase):
         # Pieces that are too wide tell nothing: the ends are 0 and 3.
         self.assertIsNone(find_return(COMING, ZERO, THREE, THREE))
 
+    def test_a_good_that_cannot_be_made(self):
+        works = works_of("goods 4\n2: 1\n3: 1 + 1 of 2\n0: 1 + 9 of 2\n0: 7 + 2 of 3\n1: 1 + 1 of 1")
+        told = find_return(works, ZERO, THREE, (1, 16))
+        self.assertEqual(told.manner, (2, None, 0, 1))
+        self.assertIsNone(return_fault(works, told))
+
     def test_ends_at_which_several_manners_are_best(self):
         # (2, 0, 1) is best from 0 to 1/2 and from 1 on: at all of the ends 0, 1/2, 1 and 2.
         self.assertEqual(len(rate_list(COMING, ZERO, TWO, (1, 16))), 3)
