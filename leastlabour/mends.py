@@ -66,7 +66,8 @@ def _is_goal(thing):
     """Whether this is a sequence with one of the four words first and as many entries as it has."""
     if not is_sequence(thing) or not thing:
         return False
-    return thing[0] in ("made", "used", "at most", "dearer") and len(thing) == (2 if thing[0] in ("made", "used") else 3)
+    short = thing[0] in ("made", "used")
+    return (short or thing[0] in ("at most", "dearer")) and len(thing) == (2 if short else 3)
 
 
 def _goal_fault(goods, many, goal):
