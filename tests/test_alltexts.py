@@ -70,7 +70,8 @@ def plain_reading(text, read, most):
 KINDS = ((two_of, two_text, plain_two, 12), (joint_of, joint_text, plain_joint, 8))
 EXAMPLE_TWO = TwoWorks(2, [TwoRecipe(0, ONE, TWO, (ZERO, HALF)), TwoRecipe(1, ZERO, (7, 3), (ZERO, ZERO)),
                            TwoRecipe(1, HALF, ZERO, (ONE, (2, 3)))])
-EXAMPLE_JOINT = JointWorks(2, [JointRecipe(TWO, (ONE, ZERO), (ONE, HALF)), JointRecipe(HALF, (ZERO, ZERO), (ZERO, THREE)),
+EXAMPLE_JOINT = JointWorks(2, [JointRecipe(TWO, (ONE, ZERO), (ONE, HALF)),
+                               JointRecipe(HALF, (ZERO, ZERO), (ZERO, THREE)),
                                JointRecipe(ONE, (ONE, (2, 3)), (TWO, ZERO))])
 
 

@@ -13,8 +13,8 @@ from tests.test_buying import MADE, bare
 TWO, THREE = (2, 1), (3, 1)
 ONLY = recipe_of(2, "1: 5")
 NO_CHANGES = NO_SEQUENCES + (
-    (), [], ("let",), ("let", ONLY, 1), ("strike",), ("strike", 0, 0), ("labour", 0), ("labour",), ("labour", 0, ONE, 0),
-    ("Let", ONLY), ("put", ONLY), (None, ONLY), (ONLY, "let"), (("let",), ONLY), (["strike"], 0), (0, "strike"),
+    (), [], ("let",), ("let", ONLY, 1), ("strike",), ("strike", 0, 0), ("labour", 0), ("labour",),
+    ("labour", 0, ONE, 0), ("Let", ONLY), ("put", ONLY), (None, ONLY), (ONLY, "let"), (("let",), ONLY), (["strike"], 0), (0, "strike"),
     ("labour", 0, ONE, ONE), (True, 0), ({}, 0))
 
 
@@ -33,10 +33,9 @@ class TestApply(unittest.TestCase):
         self.assertEqual(apply_changes(MADE, [["labour", 2, HALF]]), MADE.with_labour(2, HALF))
         self.assertEqual(apply_changes(MADE, (("let", ONLY),)), MADE.with_recipe(ONLY))
         # Numbers are those of the works before all changes; let recipes stand behind.
-        told = apply_changes(MADE, [("let", ONLY), ("strike", 0), ["strike", 1], ("labour", 2, ONE), ("let", MADE.recipes[0])])
-        self.assertEqual(works_text(told), "goods 2\n0: 1\n1: 5\n0: 1 + 1/2 of 1")
-        self.assertEqual(numbers_behind(MADE, [("let", ONLY), ("strike", 0), ["strike", 1], ("labour", 2, ONE),
-                                               ("let", MADE.recipes[0])]), (2, 3, 4))
+        changes = [("let", ONLY), ("strike", 0), ["strike", 1], ("labour", 2, ONE), ("let", MADE.recipes[0])]
+        self.assertEqual(works_text(apply_changes(MADE, changes)), "goods 2\n0: 1\n1: 5\n0: 1 + 1/2 of 1")
+        self.assertEqual(numbers_behind(MADE, changes), (2, 3, 4))
         self.assertEqual(numbers_behind(MADE, []), (0, 1, 2))
         self.assertEqual(apply_changes(Works(2, ()), [("let", ONLY)]), works_of("goods 2\n1: 5"))
 

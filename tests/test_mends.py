@@ -12,7 +12,7 @@ from tests.drawing import (HALF, NO_RATIOS, NO_SEQUENCES, NO_WHOLES, Draw, back,
 from tests.plainmends import Behind
 from tests.test_changes import NO_CHANGES, drawn_change
 
-TWO, THREE = (2, 1), (3, 1)
+TWO = (2, 1)
 WORKS = works_of("goods 2\n0: 2\n1: 2")
 POOL = [("let", recipe_of(2, "1: 1")), ("let", recipe_of(2, "0: 1")), ("let", recipe_of(2, "1: 1/2"))]
 GOALS = [("dearer", 0, 1)]
@@ -255,8 +255,8 @@ class TestJudge(unittest.TestCase):
     def test_order(self):
         least, others = self.RIGHT.least, self.RIGHT.others
         self.assertIsNone(self.judge(least, others))
-        wrong = NO_SEQUENCES + (list(least), (list(least[0]), least[1]), least + ((),), (((0,),),), least + (((1,), 1, 1),),
-                                ((0, None),), (([0], None),), (((3,), None),), (((-1,), None),), (((True,), None),),
+        wrong = NO_SEQUENCES + (list(least), (list(least[0]), least[1]), least + ((),), (((0,),),),
+                                least + (((1,), 1, 1),), ((0, None),), (([0], None),), (((3,), None),), (((-1,), None),), (((True,), None),),
                                 (((1, 0), None),), (((0, 0), None),), (("0", None),), least[::-1], least[:1] * 2,
                                 (((0, 1), None), ((2,), None)), (None,), (((None,), None),))
         for thing in wrong:
@@ -264,7 +264,8 @@ class TestJudge(unittest.TestCase):
             self.assertEqual(self.judge(thing, None), "order")
         wrong = NO_SEQUENCES + (list(others), others + ((),), (list(others[0]),), others[::-1], others[:1] * 2, least,
                                 tuple(row[:2] for row in others), tuple(row + (0,) for row in others),
-                                (([], None, 0),), (((3,), None, 0),), (((1, 0), None, 0),), (((0, 1), 0, 0), ((2,), 0, 0)))
+                                (([], None, 0),), (((3,), None, 0),), (((1, 0), None, 0),),
+                                (((0, 1), 0, 0), ((2,), 0, 0)))
         for thing in wrong:
             self.assertEqual(self.judge(least, thing), "order", thing)
 

@@ -5,8 +5,7 @@ from leastlabour.polynomials import (add_polynomials, check_polynomial, common_d
                                      multiply_polynomials, slope_of, value_at)
 from leastlabour.ratios import ONE, ZERO
 from leastlabour.wholepolys import common_whole, rest_of, sign_at, whole_value
-from tests.drawing import (HALF, NO_RATIOS, NO_SEQUENCES, Draw, back, fault, frac, fracs, is_plain, ratio_kinds,
-                           row_of_wholes)
+from tests.drawing import (HALF, NO_RATIOS, NO_SEQUENCES, Draw, back, fault, frac, fracs, is_plain, ratio_kinds)
 from tests.plainrates import cut, divided, product, value
 
 TWO, THREE = (2, 1), (3, 1)
@@ -203,7 +202,6 @@ class TestWholes(unittest.TestCase):
         self.assertEqual(whole_value([], (1, 3)), (0, 1))
         self.assertEqual(whole_value([7], (1, 3)), (7, 1))
         self.assertEqual([sign_at([1, -3, 2], place) for place in (ZERO, HALF, (3, 4), ONE, TWO)], [1, 0, -1, 0, 1])
-        self.assertEqual(row_of_wholes(1, -3), (ONE, (-3, 1)))
 
 
 if __name__ == "__main__":

@@ -8,7 +8,7 @@ from leastlabour.rates import at_rate, check_rate, does_run, own_prices, runs_up
 from leastlabour.ratios import ONE, ZERO
 from leastlabour.works import Recipe, Works
 from tests.drawing import (HALF, NO_RATIOS, NO_SEQUENCES, NO_WHOLES, Draw, back, fault, frac, is_plain, ratio_kinds)
-from tests.plain import plain_greatest, plain_made, plain_manners, plain_row, plain_whole
+from tests.plain import plain_greatest, plain_manners, plain_row, plain_whole
 from tests.plainrates import plain_runs, wasted
 
 TWO, THREE = (2, 1), (3, 1)
@@ -154,7 +154,6 @@ class TestPricesAtRates(unittest.TestCase):
             lesser = back(frac(rate) * frac(HALF))
             self.assertIsNotNone(own_prices(works, manner, lesser))
         self.assertTrue(min(made, not_made) > 10, (made, not_made))
-        self.assertEqual(plain_made(WASTED), (0, 1))
 
     def test_passed_lists_stay(self):
         manner = [0, 1, None]

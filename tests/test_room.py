@@ -1,7 +1,7 @@
 import unittest
 
 from leastlabour.errors import BadLimit, BadRecipe, NoGood, NoRecipe, NotMade
-from leastlabour.prices import greatest_prices, tight_recipes
+from leastlabour.prices import tight_recipes
 from leastlabour.ratios import ONE, ZERO
 from leastlabour.room import labour_limit, room_for
 from leastlabour.works import Recipe, Works
@@ -149,7 +149,6 @@ class TestLimit(unittest.TestCase):
         fault(self, NotMade, {"good": 1}, labour_limit, LACKING, 1, 1, None)
         for thing in NO_RATIOS:
             fault(self, BadLimit, {}, labour_limit, LACKING, 1, 0, thing)
-        self.assertEqual(greatest_prices(LACKING), (TWO, None, (9, 1)))
 
 
 if __name__ == "__main__":

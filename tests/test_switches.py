@@ -112,9 +112,10 @@ class TestPolynomials(unittest.TestCase):
             made = fracs(making_polynomial(works, manner))
             rate = frac(draw.ratio(0, 2, 5))
             makes = plain_row(wasted(works, rate), manner) is not None
-            rooted = value(made, 0) == 0 or value(made, rate) == 0 or rate and roots_between(made, Fraction(0), rate) > 0
-            wanted = plain_row(works, manner) is not None and not rooted
-            self.assertIs(makes, bool(wanted))
+            rooted = value(made, 0) == 0 or value(made, rate) == 0
+            if not rooted and rate > 0:
+                rooted = roots_between(made, Fraction(0), rate) > 0
+            self.assertIs(makes, plain_row(works, manner) is not None and not rooted)
             seen[makes] = seen.get(makes, 0) + 1
         # A rate that is just the root.
         self.assertIsNone(plain_row(wasted(EATERS, 1), (0,)))
@@ -286,7 +287,8 @@ class TestLimit(unittest.TestCase):
 class TestBestWithin(unittest.TestCase):
     def test_examples(self):
         cases = (((2, 0, 1), ZERO, HALF, True), ((2, 0, 1), ZERO, (51, 100), False), ((3, 0, 1), HALF, ONE, True),
-                 ((3, 0, 1), (49, 100), ONE, False), ((2, 0, 1), ONE, (90, 1), True), ((2, 0, 1), (3, 5), (4, 5), False),
+                 ((3, 0, 1), (49, 100), ONE, False), ((2, 0, 1), ONE, (90, 1), True),
+                 ((2, 0, 1), (3, 5), (4, 5), False),
                  ((2, 0, 1), ZERO, TWO, False), ((None, 0, 1), ZERO, HALF, False), ((None,) * 3, ZERO, HALF, False))
         for manner, low, high, wanted in cases:
             self.assertIs(is_best_within(COMING, list(manner), low, high), wanted, (manner, low, high))

@@ -141,8 +141,8 @@ class BoundJudge(unittest.TestCase):
         for at, weights in enumerate(told.papers):
             rows, least, costs = tasks[at]
             great = tuple(back(frac(one) + 1000) for one in weights)
-            for thing in (None, 3, (), weights[:-1], weights + (ZERO,), tuple(1 for _ in weights), (True,) * len(weights),
-                          tuple((-1, 1) for _ in weights), great):
+            for thing in (None, 3, (), weights[:-1], weights + (ZERO,), tuple(1 for _ in weights),
+                          (True,) * len(weights), tuple((-1, 1) for _ in weights), great):
                 papers = list(told.papers)
                 papers[at] = thing
                 self.assertEqual(judge(Bound(told.most, told.labours, papers)), "weights", thing)

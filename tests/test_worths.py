@@ -39,7 +39,8 @@ class TestParted(unittest.TestCase):
         self.assertEqual(told, Parted((7, 1), THREE, (8, 1)))
         self.assertEqual(parted_price(WASTED, [0, 1, None], [ZERO] * 3, HALF), Parted(ZERO, ZERO, ZERO))
         self.assertEqual(parted_price(WASTED, (0, 1, None), (ZERO, ONE, ZERO), ZERO), Parted(THREE, THREE, (4, 1)))
-        self.assertEqual(parted_price(WASTED, (None, 2, None), (ZERO, TWO, ZERO), THREE), Parted((18, 1), (18, 1), ZERO))
+        told = parted_price(WASTED, (None, 2, None), (ZERO, TWO, ZERO), THREE)
+        self.assertEqual(told, Parted((18, 1), (18, 1), ZERO))
         self.assertEqual(parted_price(WASTED, (None,) * 3, (ZERO,) * 3, ONE), Parted(ZERO, ZERO, ZERO))
 
     def test_price_is_labour_and_rate_times_worth(self):
