@@ -4,7 +4,7 @@ from fractions import Fraction
 
 from leastlabour.works import Recipe, Works
 from tests.drawing import back, frac, fracs, summed
-from tests.plain import plain_greatest, plain_made, plain_row, plain_whole
+from tests.plain import plain_made, plain_row, plain_whole
 from tests.plainfacts import plain_making
 from tests.sums import determinant
 
@@ -20,13 +20,16 @@ def plain_runs(works, rate):
     return plain_made(wasted(works, rate)) == plain_made(works)
 
 
-def is_best(works, manner, rate):
-    """Whether a manner of the works can make at the rate and its row is the least over all manners."""
-    if manner not in plain_whole(works):
-        return False
+def best_at(works, rate):
+    """The manners of the works that can make at the rate and whose row is the least over all of them."""
     changed = wasted(works, rate)
-    row = plain_row(changed, manner)
-    return row is not None and [row.get(good) for good in range(works.goods)] == plain_greatest(changed)
+    rows = [(manner, plain_row(changed, manner)) for manner in plain_whole(works)]
+    rows = [(manner, row) for manner, row in rows if row is not None]
+    return [manner for manner, row in rows if all(row[good] <= other[good] for _, other in rows for good in row)]
+
+
+def is_best(works, manner, rate):
+    return manner in best_at(works, rate)
 
 
 def value(polynomial, place):

@@ -7,7 +7,7 @@ from leastlabour.works import Recipe, Works
 from leastlabour.workstext import works_of
 from tests.drawing import HALF, NO_RATIOS, NO_SEQUENCES, Draw, back, fault, frac, is_plain, ratio_kinds
 from tests.plain import plain_made, plain_whole
-from tests.plainrates import PlainRates, is_best
+from tests.plainrates import PlainRates, best_at, is_best
 from tests.test_switches import COMING, EATERS
 
 TWO, THREE = (2, 1), (3, 1)
@@ -135,7 +135,7 @@ class TestReturn(unittest.TestCase):
             width = back((frac(high) - frac(low)) * frac(draw.pick(((1, 8), (1, 30), (1, 7)))))
             told = find_return(works, low, high, width)
             ends = [frac(low)] + [frac(one.high) for one in rate_list(works, low, high, width)]
-            best = [[manner for manner in plain_whole(works) if is_best(works, manner, rate)] for rate in ends]
+            best = [best_at(works, rate) for rate in ends]
             back_again = any(self.comes_back([manner in one for one in best]) for manner in plain_whole(works))
             self.assertIs(told is not None, back_again)
             seen[back_again] += 1
